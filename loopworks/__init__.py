@@ -1,0 +1,1 @@
+"""Loops over arrays, reordered, run in parallel and folded."""

@@ -1,0 +1,61 @@
+"""The examples of the interface, word for word."""
+
+import unittest
+
+from loopworks import errors
+
+EXAMPLES = r"""
+>>> from loopworks.signs import read_signs
+>>> read_signs("i >= 10;")
+[('word', 'i', 1, 1), ('symbol', '>=', 1, 3), ('number', 10, 1, 6), ('symbol', ';', 1, 8)]
+
+>>> from loopworks.signs import read_signs
+>>> read_signs("i\n $")
+raises TextFault
+
+>>> from loopworks.signs import write_signs
+>>> write_signs([("word", "f"), ("symbol", "("), ("number", 7), ("symbol", ")"), ("symbol", ";")])
+'f(7);\n'
+
+>>> from loopworks.expressions import holds
+>>> holds(("div", 3, (1, 1)), (-4,))
+True
+
+>>> from loopworks.programs import Program
+>>> program = Program.parse("params n; context n>=1; array a[]; for i=0 to n-1 { a[i]=f(a[i-1]); }")
+>>> program.text
+'params n;\ncontext n - 1 >= 0;\narray a[];\nfor i = 0 to n - 1 {\n  a[i] = f(a[i - 1]);\n}\n'
+
+>>> from loopworks.programs import Program
+>>> program = Program.parse("params n; context n>=1; array a[]; for i=0 to n-1 { a[i]=f(a[i-1]); }")
+>>> program.loops, program.statements[0].reads
+((('i', ((0, 0),), ((1, -1),), None),), ((0, ((0, 1, -1),)),))
+
+>>> from loopworks.programs import Program
+>>> Program.parse("array A[]; A[i] = f();")
+raises TextFault
+"""
+
+
+def outcome(lines):
+    """What the last of the lines gives, as an example shows it."""
+    names = {}
+    for line in lines[:-1]:
+        exec(line, names)
+    try:
+        return repr(eval(lines[-1], names))
+    except errors.WorkError as error:
+        return f"raises {error.__class__.__name__}"
+
+
+class ExamplesTest(unittest.TestCase):
+    def test_examples(self):
+        for example in EXAMPLES.strip().split("\n\n"):
+            lines = example.split("\n")
+            with self.subTest(example):
+                self.assertTrue(all(line.startswith(">>> ") for line in lines[:-1]))
+                self.assertEqual(outcome([line[4:] for line in lines[:-1]]), lines[-1])
+
+
+if __name__ == "__main__":
+    unittest.main()
