@@ -34,6 +34,24 @@ True
 >>> from loopworks.programs import Program
 >>> Program.parse("array A[]; A[i] = f();")
 raises TextFault
+
+>>> from loopworks.programs import Program
+>>> from loopworks.nests import Nest
+>>> program = Program.parse("params n; context n>=1; array a[]; for i=0 to n-1 { a[i]=f(a[i-1]); }")
+>>> nest = Nest(program, (2,))
+>>> list(nest), nest.cells_read((0, (1,))), nest.writer((0, (0,)), (0, (1,)))
+([(0, (0,)), (0, (1,))], ((0, (0,)),), (0, (0,)))
+
+>>> from loopworks.programs import Program
+>>> from loopworks.schedules import Schedule, time_of
+>>> program = Program.parse("params n; array a[]; for i=0 to n { a[i]=f(); }")
+>>> schedule = Schedule.parse("rows par,seq; f: floor(i - 3, 2), n - i;", program)
+>>> schedule.text, time_of(schedule, (4,), (0, (0,)))
+('rows par, seq;\nf: floor(i - 3, 2), n - i;\n', (-2, 4))
+
+>>> from loopworks.foldings import place_of
+>>> place_of(((), (3,)), (1, (-1, 5)))
+(1, (2, 5))
 """
 
 
