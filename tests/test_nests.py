@@ -277,6 +277,14 @@ class TooManyTest(unittest.TestCase):
         )
         self.assertEqual(self.check(triangle, (44,), (45,)), 9)
 
+    def test_loops_that_take_nothing_count_nothing(self):
+        # 1000 points at the first sizes and 1001 at the second ones; many values of i have none.
+        text = (
+            "params n, m; array a; for i = 1 to 100 { for j = 1 to min(n + 34 - i, m) {"
+            " if i + j == 2 { a = f(); } } }"
+        )
+        self.assertEqual(self.check(text, (19, 25), (50, 13)), 1)
+
     def test_many_points_around_no_instance(self):
         outer = (
             "params n, m; array a; for i = - 100 - 4 * n - 4 * m to 4 * n + 4 * m + 100 {"
