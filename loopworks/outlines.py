@@ -1,6 +1,5 @@
 """Reading the text of a program."""
 
-from loopworks.expressions import with_more_variables
 from loopworks.reading import Reader
 
 DEEPEST = 6
@@ -20,20 +19,13 @@ class Scope:
     def under(self, conditions):
         return Scope(self.names, self.loops, self.conditions + conditions)
 
-    def all_conditions(self):
-        """The conditions around, all over the same variables."""
-        found = []
-        for constraint in self.conditions:
-            wider = with_more_variables(constraint[-1], len(self.names))
-            found.append(constraint[:-1] + (wider,))
-        return tuple(found)
-
 
 class Outline:
     """What the text of a program says, with or without too much in it.
 
     The items of the program are in `body`, a tuple of such tuples: ("loop", number, body),
-    ("if", conditions, body), ("statement", number). The conditions are over the variables there.
+    ("if", conditions, body), ("statement", number). Statements are tuples (name, loops,
+    conditions, write, reads). All conditions are over the variables of the place where they stand.
     """
 
     def __init__(self, text):
@@ -139,7 +131,7 @@ class Outline:
         self.reader.need(")")
         self.reader.need(";")
         number = len(self.statements)
-        self.statements.append((name, scope.loops, scope.all_conditions(), write, tuple(reads)))
+        self.statements.append((name, scope.loops, scope.conditions, write, tuple(reads)))
         return ("statement", number)
 
     def read_accesses(self, scope):

@@ -1,6 +1,7 @@
 """Programs: loops, conditionals and statements over arrays."""
 
 from loopworks.errors import TooLarge
+from loopworks.expressions import with_more_variables
 from loopworks.normal_programs import normal_text
 from loopworks.outlines import Outline
 
@@ -38,7 +39,7 @@ class Program:
         self.arrays = tuple(outline.arrays)
         self.loops = tuple(outline.loops)
         self.statements = tuple([
-            Statement(name, loops, conditions, write, reads)
+            Statement(name, loops, widened(conditions, len(self.parameters) + len(loops)), write, reads)
             for name, loops, conditions, write, reads in outline.statements
         ])
         self.text = normal_text(outline)
@@ -46,8 +47,9 @@ class Program:
     @staticmethod
     def parse(text):
         """The program of a text."""
-        program = Program(Outline(text))
-        check_counts(program)
+        outline = Outline(text)
+        check_counts(outline)
+        program = Program(outline)
         check_numbers(program)
         return program
 
@@ -60,23 +62,31 @@ class Program:
         return self.parameters + tuple([self.loops[loop][0] for loop in loops])
 
 
-def check_counts(program):
-    """Raise TooLarge if the program has too many of something."""
+def widened(constraints, count):
+    """The constraints as ones over count variables."""
+    return tuple([
+        constraint[:-1] + (with_more_variables(constraint[-1], count),)
+        for constraint in constraints
+    ])
+
+
+def check_counts(outline):
+    """Raise TooLarge if a program has too many of something."""
     counts = [
-        (len(program.parameters), Program.MOST_PARAMETERS),
-        (len(program.context), Program.MOST_CONTEXT),
-        (len(program.arrays), Program.MOST_ARRAYS),
-        (len(program.statements), Program.MOST_STATEMENTS),
+        (len(outline.parameters), Program.MOST_PARAMETERS),
+        (len(outline.context), Program.MOST_CONTEXT),
+        (len(outline.arrays), Program.MOST_ARRAYS),
+        (len(outline.statements), Program.MOST_STATEMENTS),
     ]
-    for _, dimensions, _ in program.arrays:
+    for _, dimensions, _ in outline.arrays:
         counts.append((dimensions, Program.MOST_DIMENSIONS))
-    for _, lowers, uppers, _ in program.loops:
+    for _, lowers, uppers, _ in outline.loops:
         counts.append((len(lowers), Program.MOST_BOUNDS))
         counts.append((len(uppers), Program.MOST_BOUNDS))
-    for statement in program.statements:
-        counts.append((len(statement.loops), Program.MOST_LOOPS))
-        counts.append((len(statement.conditions), Program.MOST_CONDITIONS))
-        counts.append((len(statement.reads), Program.MOST_READS))
+    for _, loops, conditions, _, reads in outline.statements:
+        counts.append((len(loops), Program.MOST_LOOPS))
+        counts.append((len(conditions), Program.MOST_CONDITIONS))
+        counts.append((len(reads), Program.MOST_READS))
     if any([count > most for count, most in counts]):
         raise TooLarge("the program has too many parts")
 
