@@ -2,8 +2,6 @@
 
 from loopworks.reading import Reader
 
-DEEPEST = 6
-
 
 class Scope:
     """Where an item stands: the names of its variables, and the loops and conditions around it."""
@@ -84,7 +82,7 @@ class Outline:
 
     def read_body(self, scope):
         """Read items in curly brackets."""
-        self.reader.enter(DEEPEST)
+        self.reader.enter()
         found = [self.read_item(scope)]
         while not self.reader.is_at("}"):
             found.append(self.read_item(scope))

@@ -9,22 +9,38 @@ RESERVED = (
     "max", "min", "floor", "ceil", "rows", "seq", "par",
 )
 COMPARISONS = ("<=", "<", ">=", ">", "==")
+DEEPEST = 6
 
 
 class Reader:
     """The signs of a text, read one after the other."""
 
-    def __init__(self, text):
+    def __init__(self, text, deepest=DEEPEST):
         line, column = end_of(text)
         # The end counts as a sign, so that there is always one to look at.
         self.signs = read_signs(text) + [("end", "", line, column)]
         self.at = 0
         self.depth = 0
+        self.deepest = deepest
 
     def fail(self, reason):
         """Report the sign that is looked at."""
         line, column = self.signs[self.at][2:]
         raise TextFault(line, column, reason)
+
+    def fail_here(self):
+        """Report the sign that is looked at, as one that may not stand here.
+
+        The reason goes by this sign and what is ahead of it, not by what might stand here.
+        """
+        if self.is_at("{") and self.depth == self.deepest:
+            self.fail("nested too deeply")
+        if self.is_at("divides") and self.is_behind_zero():
+            self.fail("number must be at least 1")
+        self.fail("unexpected sign")
+
+    def is_behind_zero(self):
+        return self.at > 0 and self.signs[self.at - 1][1] == 0
 
     def is_at(self, value):
         return self.signs[self.at][1] == value
@@ -50,16 +66,16 @@ class Reader:
 
     def need(self, value):
         if not self.skip(value):
-            self.fail("unexpected sign")
+            self.fail_here()
 
     def need_end(self):
         if not self.is_at_end():
-            self.fail("unexpected sign")
+            self.fail_here()
 
-    def enter(self, deepest):
+    def enter(self):
         """Read an opening curly bracket."""
-        if self.is_at("{") and self.depth == deepest:
-            self.fail("nested too deeply")
+        if self.depth == self.deepest:
+            self.fail_here()
         self.need("{")
         self.depth += 1
         if self.is_at("}"):
@@ -74,7 +90,7 @@ class Reader:
         """The name that is looked at; it is not passed by, as it may still be a fault."""
         kind, value = self.signs[self.at][:2]
         if kind != "word" or value in RESERVED:
-            self.fail("unexpected sign")
+            self.fail_here()
         return value
 
     def read_known(self, names):
@@ -97,13 +113,13 @@ class Reader:
         """Read a new name of a parameter or a loop."""
         name = self.look_at_name()
         if is_iterator(name):
-            self.fail("unexpected sign")
+            self.fail_here()
         return self.read_new(names)
 
     def read_divisor(self):
         """Read a number of at least 1."""
         if not self.is_at_number():
-            self.fail("unexpected sign")
+            self.fail_here()
         if self.is_at(0):
             self.fail("number must be at least 1")
         return self.take()
@@ -147,7 +163,7 @@ class Reader:
         if self.is_at_number() and self.signs[self.at + 1][1] == "divides":
             divisor = self.take()
             if divisor == 0:
-                self.fail("number must be at least 1")
+                self.fail_here()
             self.need("divides")
             return ("div", divisor, self.read_sum(names))
         left = self.read_sum(names)
@@ -156,7 +172,7 @@ class Reader:
 
     def read_comparison(self):
         if self.signs[self.at][1] not in COMPARISONS:
-            self.fail("unexpected sign")
+            self.fail_here()
         return self.take()
 
     def read_conditions(self, names):

@@ -207,6 +207,21 @@ class OtherReasonsTest(FaultsTest):
             "array a; if 000 @divides 2 { a = f(); }", "context 0 @divides",
         )
 
+    def test_divides_behind_0_where_it_may_not_stand(self):
+        self.check(
+            AT_LEAST_1, "params n; array a[]; a[0 @divides n] = f();", "context 0 >= 0 @divides 2;",
+            "array a[]; a[1 + 0 @divides", "params n; context n + 00 @divides 2;",
+            "array a[]; for i = 0 @divides 2 to 3 {", "array a[]; for i = 0 to 0\n\t@divides 2 {",
+            "array a[]; for i = max(0 @divides 2) to 3 {", "params n; context 0 - 0 @divides n;",
+            "array a[]; a[1] = f(a[0 @divides 2]);", "array a[]; for i = 1 to min(2, 0 @divides",
+        )
+        self.check(
+            UNEXPECTED, "params n; array a[]; a[1 @divides n] = f();", "array a; @divides 0;",
+            "array a[]; a[@divides] = f();", "context 0 >= 1 @divides 2;",
+            "context 10 + 20 @divides 2;", "params n; context 0 * n @divides 2;", "@divides",
+            "array a[]; a[0 - @divides 2] = f();", "array a[@0 divides 2];",
+        )
+
     def test_nested_too_deeply(self):
         conditional = "if 0 >= 0 {\n"
         self.check(
@@ -217,6 +232,20 @@ class OtherReasonsTest(FaultsTest):
             "array a; " + conditional * 5 + "if 1 >= 0 { a = f(); } if 2 >= 0 { if 1 >= 0 @{",
             "array a; " + conditional * 6 + "if 0 >= 0 @{}",
         )
+
+    def test_a_bracket_with_six_open_where_it_may_not_stand(self):
+        head = "array a, b[]; " + "if 1 >= 0 { " * 6
+        texts = (
+            "@{", "a = f(); @{", "a @{", "a = @{", "a = f@{", "a = f(@{", "a = f(a@{", "a = f()@{",
+            "b@{", "b[@{", "b[1@{", "b[1 + @{", "b[1] = f(b[2 @{", "for @{", "for i @{", "for i = @{",
+            "for i = 0 @{", "for i = 0 to @{", "for i = max@{", "for i = max(1, @{", "if @{", "if 0 @{",
+            "if 0 >= @{", "if 0 >= 0 and @{", "if 2 divides @{", "if 0 @{", "if 0 >= 0 @{",
+            "a = f(); } a = g(); if 1 >= 0 { a @{", "a = f(); } for i = 0 to 1 { if @{",
+        )
+        self.check(DEEP, *[head + text for text in texts])
+        self.check(UNEXPECTED, *[head.replace("if 1 >= 0 { ", "", 1) + text for text in texts[:25]])
+        self.check(UNEXPECTED, head + "a = f(); } @{", head + "@;", head + "if 0 >= 0 @;")
+        self.check(AT_LEAST_1, head + "b[0 @divides {", head + "if 0 >= 0 @divides 2 {")
 
     def test_six_brackets_are_not_too_many(self):
         inner = "if 0 >= 0 { " * 6 + "a = f(); " + "} " * 6

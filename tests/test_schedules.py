@@ -194,6 +194,19 @@ class FaultsTest(unittest.TestCase):
             "rows seq; f: floor(i,\n @000);", "rows seq, par; f: floor(i, 2), floor(i, @0;",
         )
 
+    def test_divides_behind_0(self):
+        self.check(
+            ONE, "number must be at least 1", "rows seq; f: 0 @divides i;", "rows seq; f: i + 0\n@divides",
+            "rows seq; f: floor(0 @divides i, 2);", "rows seq, par; f: 1, 00 @divides 2;",
+        )
+        self.check(
+            ONE, "unexpected sign", "rows seq; f: 1 @divides i;", "rows seq; f: i @divides 0;",
+            "rows seq; f: @divides;", "rows seq; f: 10 @divides i;", "rows @0 divides;",
+        )
+
+    def test_brackets_are_never_nested_too_deeply(self):
+        self.check(ONE, "unexpected sign", "@{", "rows @{{{{{{{", "rows seq; f: i; @{{{{{{{")
+
     def test_unknown_names(self):
         self.check(
             ONE, "unknown name", "rows seq; f: @j;", "rows seq; f: i + @m;", "rows seq; f: @a;",
