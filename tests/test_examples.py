@@ -52,6 +52,15 @@ raises TextFault
 >>> from loopworks.foldings import place_of
 >>> place_of(((), (3,)), (1, (-1, 5)))
 (1, (2, 5))
+
+>>> from loopworks.programs import Program
+>>> from loopworks.schedules import Schedule
+>>> from loopworks.nests import Nest
+>>> from loopworks.faults import Faults
+>>> program = Program.parse("params n; context n>=1; array a[]; for i=0 to n-1 { a[i]=f(a[i-1]); }")
+>>> schedule = Schedule.parse("rows par; f: i;", program)
+>>> Faults(Nest(program, (2,)), schedule).first
+('early', (0, (1,)), 0, (0, (0,)))
 """
 
 

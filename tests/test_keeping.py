@@ -10,6 +10,7 @@ from loopworks.keeping import is_kept
 from loopworks.nests import Nest
 from loopworks.programs import Program
 from loopworks.schedules import Schedule, is_execution
+from tests.cases import SMALL, random_folding
 from tests.random_programs import random_program
 from tests.test_schedules import random_schedule
 
@@ -200,17 +201,6 @@ def is_kept_by_all_executions(nest, schedule, folding):
     return True
 
 
-SMALL = (
-    "params n; temp b[]; array a[]; for i = 0 to 2 { b[i] = f(b[i - 1]); } a[n] = g(b[n]);",
-    "params n; temp b[]; array a[]; for i = 0 to 1 { b[i + n] = f(); a[i] = g(b[i], a[i - 1]); }",
-    "params n; temp b[,]; array a; for i = 0 to 1 { for j = 0 to 1 { b[i, j] = f(b[i - 1, j + 1]); } }"
-    " a = g(b[1, n]);",
-    "params n; temp s; array a[]; s = f(); for i = 0 to 2 { a[i] = g(s, a[n]); } s = h();",
-    "params n; array a[]; for i = 0 to 2 { a[i] = f(a[2 - i]); a[1] = g(); }",
-    "params n; temp b[]; array a; b[n] = f(); b[2] = g(b[0]); a = h(b[2], b[n]);",
-)
-
-
 class AllExecutionsTest(unittest.TestCase):
     def compare(self, nest, schedule, folding):
         expected = is_kept_by_all_executions(nest, schedule, folding)
@@ -227,7 +217,7 @@ class AllExecutionsTest(unittest.TestCase):
             outcomes = []
             for _ in range(60):
                 nest = Nest(program, (chance.randrange(-2, 4),))
-                folding = self.random_folding(chance, program)
+                folding = random_folding(chance, program)
                 schedule = Schedule.parse(random_schedule(chance, program), program)
                 outcomes.append(self.compare(nest, schedule, folding))
             self.assertIn(False, outcomes, text)
@@ -244,7 +234,7 @@ class AllExecutionsTest(unittest.TestCase):
             schedule = Schedule.parse(text, program)
             for size in range(-2, 4):
                 for _ in range(6):
-                    folding = self.random_folding(chance, program)
+                    folding = random_folding(chance, program)
                     outcomes.append(self.compare(Nest(program, (size,)), schedule, folding))
         self.assertGreater(outcomes.count(True), 10)
         self.assertGreater(outcomes.count(False), 10)
@@ -261,17 +251,10 @@ class AllExecutionsTest(unittest.TestCase):
                 continue
             if 2 <= len(nest) <= 5:
                 schedule = Schedule.parse(random_schedule(chance, program), program)
-                folding = self.random_folding(chance, program)
+                folding = random_folding(chance, program)
                 outcomes.append(self.compare(nest, schedule, folding))
         self.assertGreater(outcomes.count(True), 25)
         self.assertGreater(outcomes.count(False), 25)
-
-    def random_folding(self, chance, program):
-        folding = []
-        for _, dimensions, temporary in program.arrays:
-            most = 4 if temporary else 1
-            folding.append(tuple([chance.randrange(most) for _ in range(dimensions)]))
-        return tuple(folding)
 
 
 if __name__ == "__main__":

@@ -24,7 +24,7 @@ BUILTINS = (
     "isinstance ord repr any all divmod iter super staticmethod ValueError"
 ).split()
 METHODS = (
-    "append extend get items setdefault index join split isdigit count find startswith pop"
+    "append extend get items setdefault index join split isdigit count find startswith pop remove"
 ).split()
 DOUBLE = "__init__ __eq__ __len__ __iter__ __contains__".split()
 BARRED = (
@@ -155,7 +155,7 @@ class FormTest(unittest.TestCase):
             for node in ast.walk(tree):
                 if isinstance(node, ast.FunctionDef):
                     names = [decorator.id for decorator in node.decorator_list]
-                    self.assertIn(names, ([], ["staticmethod"]), (path.name, node.name))
+                    self.assertIn(names, ([], ["staticmethod"], ["property"]), (path.name, node.name))
                     if node.name.startswith("__"):
                         self.assertIn(node.name, DOUBLE, path.name)
                 if isinstance(node, ast.ClassDef):
