@@ -32,6 +32,29 @@ def multiply(factor, expression):
     return tuple([factor * number for number in expression])
 
 
+def difference(one, other):
+    return tuple([a - b for a, b in zip(one, other)])
+
+
+def with_constant_added(expression, number):
+    return expression[:-1] + (expression[-1] + number,)
+
+
+def at_least(one, other):
+    """The constraint that the value of one expression is at least that of the other one."""
+    return ("ge", difference(one, other))
+
+
+def less(one, other):
+    """The constraint that the value of one expression is less than that of the other one."""
+    return ("ge", with_constant_added(difference(other, one), -1))
+
+
+def equal(one, other):
+    """The constraint that two expressions have the same value."""
+    return ("eq", difference(one, other))
+
+
 def with_more_variables(expression, count):
     """An expression as one over count variables, the new ones behind those that it has."""
     missing = count + 1 - len(expression)

@@ -17,6 +17,12 @@ def check_folding(program, folding):
             raise BadFolding("an integer of the folding is out of range")
 
 
+def numbers_of(program, folding, array):
+    """The numbers of the folding for an array, one for each of its dimensions."""
+    numbers = folding[array] if array < len(folding) else ()
+    return numbers + (0,) * (program.arrays[array][1] - len(numbers))
+
+
 def place_of(folding, cell):
     """The place of a cell."""
     array, index = cell

@@ -1,7 +1,7 @@
 """Reading what the texts of programs and of schedules are made of."""
 
 from loopworks.errors import TextFault
-from loopworks.expressions import add, multiply
+from loopworks.expressions import at_least, equal, less
 from loopworks.signs import end_of, read_signs
 
 RESERVED = (
@@ -191,19 +191,11 @@ def is_iterator(name):
 def compared(left, comparison, right):
     """The constraint that a comparison of two expressions stands for."""
     if comparison == "==":
-        return ("eq", difference(left, right))
+        return equal(left, right)
     if comparison == ">=":
-        return ("ge", difference(left, right))
+        return at_least(left, right)
     if comparison == ">":
-        return ("ge", less_one(difference(left, right)))
+        return less(right, left)
     if comparison == "<=":
-        return ("ge", difference(right, left))
-    return ("ge", less_one(difference(right, left)))
-
-
-def difference(one, other):
-    return add(one, multiply(-1, other))
-
-
-def less_one(expression):
-    return expression[:-1] + (expression[-1] - 1,)
+        return at_least(right, left)
+    return less(left, right)

@@ -19,6 +19,7 @@ SMALL = (
     "params n; temp b[]; array a; b[n] = f(); b[2] = g(b[0]); a = h(b[2], b[n]);",
 )
 GROWING = (
+    "params n; array s, a[]; for i = 0 to n { s = f(s); a[0] = g(s); }",
     "params n; array s; temp b[]; for i = 0 to n { s = f(s, b[i]); b[i + 1] = g(s); }",
     "params n, m; array a[,]; for i = 0 to n { for j = i to m { a[i, j] = f(a[i - 1, j], a[i, j - 1]); } }",
     "params n; temp b[]; array a[]; for i = 0 to n { b[i] = f(); } for i = 0 to n { a[i] = g(b[n - i]); }",

@@ -61,6 +61,16 @@ raises TextFault
 >>> schedule = Schedule.parse("rows par; f: i;", program)
 >>> Faults(Nest(program, (2,)), schedule).first
 ('early', (0, (1,)), 0, (0, (0,)))
+
+>>> from loopworks.systems import System
+>>> System(2, [("ge", (2, 4, 5)), ("ge", (1, 2, 9)), ("eq", (0, -3, 6))]).reduced().rows
+(('ge', (1, 2, 2)), ('eq', (0, 1, -2)))
+
+>>> from loopworks.systems import System
+>>> from loopworks.elimination import cases, lift
+>>> system = System(2, [("ge", (1, -2, 0)), ("ge", (-1, 2, 1))])
+>>> [case.rows for case in cases(system, 0)], lift(system, 0, 0, (4,))
+([()], (8, 4))
 """
 
 

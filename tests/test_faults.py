@@ -201,7 +201,7 @@ class AllFaultsTest(unittest.TestCase):
         ]
         for kind in KINDS:
             self.assertIn((kind,), together)
-        self.assertIn(tuple(sorted(KINDS)), together)
+        self.assertGreater(len([kinds for kinds in together if len(kinds) >= 3]), 50)
 
 
 if __name__ == "__main__":

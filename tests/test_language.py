@@ -13,9 +13,10 @@ FILES = sorted(FOLDER.glob("*.py"))
 STATEMENTS = (
     ast.FunctionDef, ast.ClassDef, ast.Return, ast.Assign, ast.AugAssign, ast.For, ast.While,
     ast.If, ast.Raise, ast.Pass, ast.Break, ast.Continue, ast.Expr, ast.ImportFrom, ast.Delete,
+    ast.Try,
 )
 FORBIDDEN = (
-    ast.Try, ast.Global, ast.Nonlocal, ast.AsyncFunctionDef, ast.Yield, ast.YieldFrom, ast.Await,
+    ast.Global, ast.Nonlocal, ast.AsyncFunctionDef, ast.Yield, ast.YieldFrom, ast.Await,
     ast.GeneratorExp, ast.NamedExpr, ast.Set, ast.SetComp, ast.Lambda, ast.With, ast.Starred,
     ast.Assert, ast.Match, ast.Div, ast.AnnAssign, ast.Import,
 )
@@ -26,7 +27,8 @@ BUILTINS = (
 METHODS = (
     "append extend get items setdefault index join split isdigit count find startswith pop remove"
 ).split()
-DOUBLE = "__init__ __eq__ __len__ __iter__ __contains__".split()
+LIBRARY = {"math": ("gcd", "lcm")}
+DOUBLE = "__init__ __eq__ __len__ __iter__ __contains__ __add__".split()
 BARRED = (
     "register mro elements open input law version_info with_traceback add_note type typing enum "
     "Enum Flag Generic Protocol ABC namedtuple dataclass overload contextmanager os vars dir eval "
@@ -70,7 +72,7 @@ class TextTest(unittest.TestCase):
                     value = getattr(node, field, None)
                     if isinstance(value, str):
                         self.assertNotIn(value, BARRED, path.name)
-                        self.assertNotRegex(value, r"^_[a-z]|^__(?!(init|eq|len|iter|contains)__)")
+                        self.assertNotRegex(value, r"^_[a-z]|^__(?!(init|eq|len|iter|contains|add)__)")
                 if isinstance(node, ast.Constant) and isinstance(node.value, str):
                     self.assertNotIn("\u0025", node.value, path.name)
                     self.assertFalse(re.search(r"\.__?$", node.value), path.name)
@@ -109,6 +111,9 @@ class FormTest(unittest.TestCase):
                 if isinstance(node, ast.ImportFrom):
                     self.assertIn(node, tree.body)
                     self.assertEqual(node.level, 0)
+                    if node.module in LIBRARY:
+                        self.check_library(tree, node)
+                        continue
                     package, name = node.module.split(".")
                     self.assertEqual(package, "loopworks")
                     self.assertTrue(all(alias.asname is None for alias in node.names))
@@ -122,6 +127,38 @@ class FormTest(unittest.TestCase):
             self.assertTrue(ready, "files import one another in a circle")
             done.extend(ready)
 
+    def check_library(self, tree, node):
+        """Names of the library are only called, by their bare names, without a star."""
+        for alias in node.names:
+            self.assertIn(alias.name, LIBRARY[node.module])
+            self.assertIsNone(alias.asname)
+            used = [part for part in ast.walk(tree) if getattr(part, "id", "") == alias.name]
+            calls = [part for part in ast.walk(tree) if isinstance(part, ast.Call)]
+            self.assertTrue(used)
+            for part in used:
+                call = [call for call in calls if call.func is part]
+                self.assertEqual(len(call), 1)
+                self.assertEqual(call[0].keywords, [])
+
+    def test_errors_that_are_caught_are_own_ones(self):
+        for path, tree in trees():
+            for node in ast.walk(tree):
+                if isinstance(node, ast.Try):
+                    self.assertEqual(node.finalbody, [], (path.name, node.lineno))
+                    for handler in node.handlers:
+                        self.assertIn(handler.type.id, own_names(ast.ClassDef), path.name)
+
+    def test_operators_and_properties_change_nothing(self):
+        names = ("__eq__", "__len__", "__contains__", "__add__")
+        for path, tree in trees():
+            for node in ast.walk(tree):
+                if isinstance(node, ast.FunctionDef):
+                    decorators = [decorator.id for decorator in node.decorator_list]
+                    if node.name in names or "property" in decorators:
+                        rows = [row for row in node.body if not isinstance(row, ast.Expr)]
+                        self.assertEqual(len(rows), 1, (path.name, node.name))
+                        self.assertIsInstance(rows[0], ast.Return, (path.name, node.name))
+
     def test_calls(self):
         functions = own_names(ast.FunctionDef)
         classes = own_names(ast.ClassDef)
@@ -131,7 +168,8 @@ class FormTest(unittest.TestCase):
                     continue
                 place = (path.name, node.lineno)
                 if isinstance(node.func, ast.Name):
-                    self.assertIn(node.func.id, functions + classes + BUILTINS, place)
+                    names = functions + classes + BUILTINS + list(LIBRARY["math"])
+                    self.assertIn(node.func.id, names, place)
                 else:
                     self.assertIsInstance(node.func, ast.Attribute, place)
                     self.assertIn(node.func.attr, functions + METHODS + ["__init__"], place)
