@@ -50,8 +50,8 @@ def accesses_of(nest):
     """All accesses of a nest, in the order in which they are counted."""
     found = []
     for s, point in nest.instances:
-        reads = range(len(nest.program.statements[s].reads))
-        found.extend([(s, point, read) for read in reads])
+        count = len(nest.program.statements[s].reads)
+        found.extend([(s, point, read) for read in range(count)])
         found.append((s, point, None))
     return found
 

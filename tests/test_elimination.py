@@ -272,8 +272,9 @@ class WrongPointsTest(unittest.TestCase):
             with self.assertRaises(InvalidPoint):
                 lift(system, 0, 0, point)
         for index in (2, 3, 100, -1, -2):
-            with self.assertRaises(InvalidPoint):
-                lift(system, 0, index, (4,))
+            for value in range(-6, 7):
+                with self.assertRaises(InvalidPoint):
+                    lift(system, 0, index, (value,))
 
     def test_an_impossible_case(self):
         with self.assertRaises(InvalidPoint):

@@ -164,6 +164,10 @@ class FaultsTest(unittest.TestCase):
         self.assertEqual((list(found), len(found), found.first), ([], 0, None))
         self.assertIs(("early", (0, (1,)), 0, (0, (0,))) in found, False)
 
+    def test_a_single_one(self):
+        found = Faults(*made(CHAIN, (1,), "rows par; f: i;"))
+        self.assertEqual((len(found), found.first), (1, ("early", (0, (1,)), 0, (0, (0,)))))
+
     def test_a_second_one(self):
         nest, schedule = made(PAIR, (3,), "rows seq; f: 0; g: 1;")
         one = Faults(nest, schedule, folding=((2,),))
