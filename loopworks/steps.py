@@ -19,7 +19,11 @@ def apply_step(system, step):
 
 def remaining(system, steps):
     """The systems that are left behind steps."""
-    left = (system,)
+    return left_behind((system,), steps)
+
+
+def left_behind(left, steps):
+    """The systems that are left of some behind steps."""
     for index, step in enumerate(steps):
         made = made_by(left[0], step) if len(left) > 0 else None
         if made is None:

@@ -71,6 +71,10 @@ raises TextFault
 >>> system = System(2, [("ge", (1, -2, 0)), ("ge", (-1, 2, 1))])
 >>> [case.rows for case in cases(system, 0)], lift(system, 0, 0, (4,))
 ([()], (8, 4))
+
+>>> from loopworks.conditions import eliminate
+>>> eliminate([(1, -1, 0), (-1, 2, 3), (0, 2, 7)], 0)
+[(0, 1, 3)]
 """
 
 

@@ -42,6 +42,19 @@ FUNCTIONS = {
         "asks_of(program, schedule, *, folding=())", "clauses_hold(clauses, point)",
         "point_of_fault(nest, schedule, fault, *, folding=())",
     ],
+    "derivations": [
+        "failures(constraint)", "start_of(ask)", "apply_ask_step(ask, system, step)",
+        "settles(ask, steps)", "accepts(program, schedule, derivations, *, folding=())",
+    ],
+    "examining": ["examine(system, *, effort=500)"],
+    "searching": [
+        "examine_ask(ask, *, effort=500)", "search(program, schedule, *, folding=(), effort=500)",
+    ],
+    "conditions": [
+        "reduced(condition)", "least_form(conditions)", "eliminate(conditions, index)",
+        "statement_conditions(program, schedule, number)", "estimates(program, schedule, number)",
+        "conditions_up_to(program, schedule, number, index)",
+    ],
 }
 CLASSES = {
     "programs": {"Program": ["parse", "__eq__", "names_of"], "Statement": []},

@@ -120,6 +120,8 @@ class FormTest(unittest.TestCase):
                     graph[path.stem].append(name)
                     source = ast.parse((FOLDER / f"{name}.py").read_text("ascii"))
                     defined = [getattr(top, "name", "") for top in source.body]
+                    assigned = [top for top in source.body if isinstance(top, ast.Assign)]
+                    defined.extend([top.targets[0].id for top in assigned])
                     self.assertTrue(all(alias.name in defined for alias in node.names))
         done = []
         while len(done) < len(graph):
@@ -146,7 +148,9 @@ class FormTest(unittest.TestCase):
                 if isinstance(node, ast.Try):
                     self.assertEqual(node.finalbody, [], (path.name, node.lineno))
                     for handler in node.handlers:
-                        self.assertIn(handler.type.id, own_names(ast.ClassDef), path.name)
+                        named = getattr(handler.type, "elts", [handler.type])
+                        for name in named:
+                            self.assertIn(name.id, own_names(ast.ClassDef), path.name)
 
     def test_operators_and_properties_change_nothing(self):
         names = ("__eq__", "__len__", "__contains__", "__add__")
