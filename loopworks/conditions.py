@@ -113,6 +113,11 @@ def statement_conditions(program, schedule, number):
     return found
 
 
+def placed(program, schedule, number, expression):
+    """An expression over the parameters and loops of a statement, over its variables."""
+    return Layout(program, schedule, number).placed(expression)
+
+
 def time_conditions(layout, at, divisor, greatest, least):
     """The conditions that a time is that of a value between the least and the greatest one."""
     product = multiply(divisor, layout.unit(layout.parameters + at))

@@ -75,6 +75,14 @@ raises TextFault
 >>> from loopworks.conditions import eliminate
 >>> eliminate([(1, -1, 0), (-1, 2, 3), (0, 2, 7)], 0)
 [(0, 1, 3)]
+
+>>> from loopworks.programs import Program
+>>> from loopworks.schedules import Schedule
+>>> from loopworks.generating import generate
+>>> program = Program.parse("params N; context N>=1; temp A[,]; for i=0 to N-1 { for j=0 to N-1 { A[i,j]=S(); } }")
+>>> schedule = Schedule.parse("rows seq, par; S: i + j, j;", program)
+>>> generate(program, schedule).text
+'for t1 = 0 to 2 * N - 2 {\n  parfor t2 = max(0, t1 + 1 - N) to min(N - 1, t1) {\n    S(t1 - t2, t2);\n  }\n}\n'
 """
 
 

@@ -55,6 +55,10 @@ FUNCTIONS = {
         "statement_conditions(program, schedule, number)", "estimates(program, schedule, number)",
         "conditions_up_to(program, schedule, number, index)",
     ],
+    "generating": ["generate(program, schedule)"],
+    "executing": [
+        "executed(code, sizes)", "is_path_before(one, other)", "code_order(code, sizes)",
+    ],
 }
 CLASSES = {
     "programs": {"Program": ["parse", "__eq__", "names_of"], "Statement": []},
@@ -73,6 +77,27 @@ CLASSES = {
         ],
     },
     "asks": {"Ask": []},
+    "codes": {"Code": ["parse", "__eq__"]},
+    "benches": {
+        "Bench": [
+            "__init__", "is_arranged", "arrange", "submit", "problems", "loops", "tried", "attempt",
+        ],
+    },
+}
+METHODS = {
+    ("programs", "Program"): ["parse(text)", "names_of(self, number)"],
+    ("schedules", "Schedule"): ["parse(text, program)"],
+    ("nests", "Nest"): [
+        "is_earlier(self, one, other)", "written(self, x)", "cells_read(self, x)",
+        "writer(self, cell, x)", "last_writer(self, cell)",
+    ],
+    ("systems", "System"): ["reduced(self)"],
+    ("codes", "Code"): ["parse(text, program)"],
+    ("benches", "Bench"): [
+        "arrange(self, schedule, *, folding=())", "submit(self, derivations)",
+        "problems(self, sizes)", "loops(self)", "tried(self)",
+        "attempt(self, schedule, derivations, *, folding=())",
+    ],
 }
 
 
@@ -93,10 +118,17 @@ class InterfaceTest(unittest.TestCase):
                 own = [part.name for part in classes[title].body if isinstance(part, ast.FunctionDef)]
                 self.assertEqual([method for method in methods if method not in own], [])
 
+    def test_arguments_of_methods(self):
+        for (name, title), listed in METHODS.items():
+            made = getattr(import_module(f"loopworks.{name}"), title)
+            for written in listed:
+                method = getattr(made, written.split("(")[0])
+                self.assertEqual(method.__name__ + str(inspect.signature(method)), written)
+
     def test_how_objects_are_made(self):
         for name, title, written in (
             ("nests", "Nest", "(program, sizes)"), ("systems", "System", "(variables, rows)"),
-            ("faults", "Faults", "(nest, schedule, *, folding=())"),
+            ("faults", "Faults", "(nest, schedule, *, folding=())"), ("benches", "Bench", "(program)"),
         ):
             made = getattr(import_module(f"loopworks.{name}"), title)
             self.assertEqual(str(inspect.signature(made)), written)

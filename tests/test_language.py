@@ -13,22 +13,22 @@ FILES = sorted(FOLDER.glob("*.py"))
 STATEMENTS = (
     ast.FunctionDef, ast.ClassDef, ast.Return, ast.Assign, ast.AugAssign, ast.For, ast.While,
     ast.If, ast.Raise, ast.Pass, ast.Break, ast.Continue, ast.Expr, ast.ImportFrom, ast.Delete,
-    ast.Try,
+    ast.Try, ast.With,
 )
 FORBIDDEN = (
     ast.Global, ast.Nonlocal, ast.AsyncFunctionDef, ast.Yield, ast.YieldFrom, ast.Await,
-    ast.GeneratorExp, ast.NamedExpr, ast.Set, ast.SetComp, ast.Lambda, ast.With, ast.Starred,
+    ast.GeneratorExp, ast.NamedExpr, ast.Set, ast.SetComp, ast.Lambda, ast.Starred,
     ast.Assert, ast.Match, ast.Div, ast.AnnAssign, ast.Import,
 )
 BUILTINS = (
     "len range enumerate zip min max sum abs sorted reversed int str bool list tuple dict "
-    "isinstance ord repr any all divmod iter super staticmethod ValueError"
+    "isinstance ord repr any all divmod iter set super staticmethod ValueError"
 ).split()
 METHODS = (
     "append extend get items setdefault index join split isdigit count find startswith pop remove"
 ).split()
 LIBRARY = {"math": ("gcd", "lcm")}
-DOUBLE = "__init__ __eq__ __len__ __iter__ __contains__ __add__".split()
+DOUBLE = "__init__ __eq__ __len__ __iter__ __contains__ __add__ __enter__ __exit__".split()
 BARRED = (
     "register mro elements open input law version_info with_traceback add_note type typing enum "
     "Enum Flag Generic Protocol ABC namedtuple dataclass overload contextmanager os vars dir eval "
@@ -72,7 +72,7 @@ class TextTest(unittest.TestCase):
                     value = getattr(node, field, None)
                     if isinstance(value, str):
                         self.assertNotIn(value, BARRED, path.name)
-                        self.assertNotRegex(value, r"^_[a-z]|^__(?!(init|eq|len|iter|contains|add)__)")
+                        self.assertNotRegex(value, r"^_[a-z]|^__(?!(init|eq|len|iter|contains|add|enter|exit)__)")
                 if isinstance(node, ast.Constant) and isinstance(node.value, str):
                     self.assertNotIn("\u0025", node.value, path.name)
                     self.assertFalse(re.search(r"\.__?$", node.value), path.name)
