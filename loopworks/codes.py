@@ -90,24 +90,13 @@ class CodeReader(Reader):
     def read_bounds(self, function, rounding, names):
         """Read one bound, or several in brackets behind the name of a function."""
         if not self.skip(function):
-            return (self.read_bound(rounding, names),)
+            return (self.read_rounded(rounding, names),)
         self.need("(")
-        found = [self.read_bound(rounding, names)]
+        found = [self.read_rounded(rounding, names)]
         while self.skip(","):
-            found.append(self.read_bound(rounding, names))
+            found.append(self.read_rounded(rounding, names))
         self.need(")")
         return tuple(found)
-
-    def read_bound(self, rounding, names):
-        """Read a bound; a pair of an expression and a divisor."""
-        if not self.skip(rounding):
-            return (self.read_sum(names), 1)
-        self.need("(")
-        expression = self.read_sum(names)
-        self.need(",")
-        divisor = self.read_divisor()
-        self.need(")")
-        return (expression, divisor)
 
     def read_statement(self, names):
         statements = self.program.statements

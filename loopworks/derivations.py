@@ -7,7 +7,7 @@ from loopworks.expressions import (
     add, at_least, difference, multiply, with_constant_added, with_more_variables,
 )
 from loopworks.programs import widened
-from loopworks.steps import MOST_WEIGHT, check_case_counts, check_left, check_numbers, refutes
+from loopworks.steps import MOST_WEIGHT, check_case_counts, check_numbers, left_behind, refutes
 from loopworks.systems import System, is_integer, is_tuple_of_integers
 
 
@@ -37,14 +37,7 @@ def apply_ask_step(ask, system, step):
 
 def left_behind_ask_steps(ask, left, steps):
     """The systems that are left of some behind steps of a derivation."""
-    for index, step in enumerate(steps):
-        made = made_for_ask(ask, left[0], step) if len(left) > 0 else None
-        if made is None:
-            raise StepFails(index)
-        left = made + left[1:]
-        check_left(left)
-        check_numbers(made)
-    return left
+    return left_behind(left, steps, lambda system, step: made_for_ask(ask, system, step))
 
 
 def settles(ask, steps):

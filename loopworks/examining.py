@@ -3,7 +3,7 @@
 from loopworks.elimination import Elimination, lift
 from loopworks.errors import TooGreat, TooMany
 from loopworks.expressions import multiply
-from loopworks.steps import left_behind
+from loopworks.steps import left_behind, made_by
 from loopworks.tableaus import Tableau
 
 MOST_EFFORT = 2000
@@ -43,7 +43,7 @@ class Examination:
     def take(self, steps):
         """Take steps if they are within the limits; True if they are."""
         try:
-            left = left_behind(self.left, steps)
+            left = left_behind(self.left, steps, made_by)
         except (TooMany, TooGreat):
             return False
         trails = [self.trail_of(steps[-1], index) for index in range(len(left) - len(self.left) + 1)]

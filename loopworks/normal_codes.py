@@ -2,7 +2,7 @@
 
 from loopworks.signs import write_signs
 from loopworks.writing import (
-    conditions_signs, joined, number, sum_signs, sums_signs, symbol, word,
+    conditions_signs, joined, rounded_signs, sums_signs, symbol, word,
 )
 
 
@@ -51,7 +51,7 @@ def loop_signs(program, item, names):
 
 def bounds_signs(function, rounding, bounds, names):
     """The signs of a list of bounds, with the names of the functions that stand there."""
-    return chosen_signs(function, [bound_signs(rounding, bound, names) for bound in bounds])
+    return chosen_signs(function, [rounded_signs(rounding, bound, names) for bound in bounds])
 
 
 def chosen_signs(function, groups):
@@ -59,11 +59,3 @@ def chosen_signs(function, groups):
     if len(groups) == 1:
         return groups[0]
     return [word(function), symbol("(")] + joined(groups, symbol(",")) + [symbol(")")]
-
-
-def bound_signs(rounding, bound, names):
-    expression, divisor = bound
-    signs = sum_signs(expression, names)
-    if divisor == 1:
-        return signs
-    return [word(rounding), symbol("(")] + signs + [symbol(","), number(divisor), symbol(")")]

@@ -158,6 +158,17 @@ class Reader:
             found.append(self.read_sum(names))
         return tuple(found)
 
+    def read_rounded(self, function, names):
+        """Read a sum, or one and its divisor behind the name of a function; a pair of both."""
+        if not self.skip(function):
+            return (self.read_sum(names), 1)
+        self.need("(")
+        expression = self.read_sum(names)
+        self.need(",")
+        divisor = self.read_divisor()
+        self.need(")")
+        return (expression, divisor)
+
     def read_condition(self, names):
         """Read a condition; a constraint."""
         if self.is_at_number() and self.signs[self.at + 1][1] == "divides":

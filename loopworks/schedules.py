@@ -5,7 +5,7 @@ from loopworks.expressions import value_at
 from loopworks.programs import is_within_limits
 from loopworks.reading import Reader
 from loopworks.signs import write_signs
-from loopworks.writing import joined, number, sum_signs, symbol, word
+from loopworks.writing import joined, rounded_signs, symbol, word
 
 
 class Schedule:
@@ -68,20 +68,9 @@ class ScheduleReader(Reader):
         for at in range(count):
             if at > 0:
                 self.need(",")
-            rows.append(self.read_row(names))
+            rows.append(self.read_rounded("floor", names))
         self.need(";")
         return tuple(rows)
-
-    def read_row(self, names):
-        """Read a row; a pair of an expression and a divisor."""
-        if not self.skip("floor"):
-            return (self.read_sum(names), 1)
-        self.need("(")
-        expression = self.read_sum(names)
-        self.need(",")
-        divisor = self.read_divisor()
-        self.need(")")
-        return (expression, divisor)
 
 
 def check_limits(schedule):
@@ -100,18 +89,10 @@ def normal_text(program, marks, rows):
     signs = [word("rows")] + joined(words, symbol(",")) + [symbol(";")]
     for at, line in enumerate(rows):
         names = program.names_of(at)
-        written = joined([row_signs(row, names) for row in line], symbol(","))
+        written = joined([rounded_signs("floor", row, names) for row in line], symbol(","))
         head = [word(program.statements[at].name), symbol(":")]
         signs.extend(head + written + [symbol(";")])
     return write_signs(signs)
-
-
-def row_signs(row, names):
-    expression, divisor = row
-    signs = sum_signs(expression, names)
-    if divisor == 1:
-        return signs
-    return [word("floor"), symbol("(")] + signs + [symbol(","), number(divisor), symbol(")")]
 
 
 class Times:

@@ -19,13 +19,16 @@ def apply_step(system, step):
 
 def remaining(system, steps):
     """The systems that are left behind steps."""
-    return left_behind((system,), steps)
+    return left_behind((system,), steps, made_by)
 
 
-def left_behind(left, steps):
-    """The systems that are left of some behind steps."""
+def left_behind(left, steps, make):
+    """The systems that are left of some behind steps.
+
+    What a step makes of a system, or None, is what make returns for both.
+    """
     for index, step in enumerate(steps):
-        made = made_by(left[0], step) if len(left) > 0 else None
+        made = make(left[0], step) if len(left) > 0 else None
         if made is None:
             raise StepFails(index)
         left = made + left[1:]

@@ -51,6 +51,15 @@ def sums_signs(expressions, names):
     return joined([sum_signs(expression, names) for expression in expressions], symbol(","))
 
 
+def rounded_signs(function, divided, names):
+    """The signs of a pair of an expression and its divisor, with the name of a function."""
+    expression, divisor = divided
+    signs = sum_signs(expression, names)
+    if divisor == 1:
+        return signs
+    return [word(function), symbol("(")] + signs + [symbol(","), number(divisor), symbol(")")]
+
+
 def condition_signs(constraint, names):
     signs = sum_signs(constraint[-1], names)
     if constraint[0] == "div":

@@ -17,7 +17,7 @@ STATEMENTS = (
 )
 FORBIDDEN = (
     ast.Global, ast.Nonlocal, ast.AsyncFunctionDef, ast.Yield, ast.YieldFrom, ast.Await,
-    ast.GeneratorExp, ast.NamedExpr, ast.Set, ast.SetComp, ast.Lambda, ast.Starred,
+    ast.GeneratorExp, ast.NamedExpr, ast.Set, ast.SetComp, ast.Starred,
     ast.Assert, ast.Match, ast.Div, ast.AnnAssign, ast.Import,
 )
 BUILTINS = (
@@ -28,6 +28,8 @@ METHODS = (
     "append extend get items setdefault index join split isdigit count find startswith pop remove"
 ).split()
 LIBRARY = {"math": ("gcd", "lcm")}
+# Parameters that are functions.
+PASSED = ["make"]
 DOUBLE = "__init__ __eq__ __len__ __iter__ __contains__ __add__ __enter__ __exit__".split()
 BARRED = (
     "register mro elements open input law version_info with_traceback add_note type typing enum "
@@ -172,7 +174,7 @@ class FormTest(unittest.TestCase):
                     continue
                 place = (path.name, node.lineno)
                 if isinstance(node.func, ast.Name):
-                    names = functions + classes + BUILTINS + list(LIBRARY["math"])
+                    names = functions + classes + BUILTINS + list(LIBRARY["math"]) + PASSED
                     self.assertIn(node.func.id, names, place)
                 else:
                     self.assertIsInstance(node.func, ast.Attribute, place)
