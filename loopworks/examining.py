@@ -67,6 +67,8 @@ class Examination:
         if system.reduced().is_impossible:
             self.take((("close",),))
             return None
+        if system.variables == 0:
+            return lifted((), self.trails[0])
         quotients = len([row for row in system.rows if row[0] == "div"])
         if (system.variables + quotients) * len(system.rows) > MOST_NUMBERS:
             self.go_on([])

@@ -164,7 +164,8 @@ def search(program, schedule, *, folding=(), effort=500):
         if kind == "point":
             kind, found = sizes_of(program, ask, found, budget)
         if kind == "sizes":
-            return ("sizes", with_fewer_instances(program, schedule, folding, found))
+            found = sizes_with_nest(program, schedule, folding, found)
+            return ("unknown", "limit") if found is None else ("sizes", found)
         if kind == "derivation":
             derivations.append(found)
         elif found == "effort":
@@ -213,16 +214,16 @@ def sizes_alone():
     return [size for _, size in sorted(ranked)]
 
 
-def with_fewer_instances(program, schedule, folding, sizes):
-    """Sizes at which there is a nest and something is not kept, if found, instead of given ones."""
-    if nest_or_none(program, sizes) is not None:
-        return sizes
-    candidates = small_sizes(program)
+def sizes_with_nest(program, schedule, folding, sizes):
+    """Sizes at which there is a nest and something is not kept: given ones, or others, or None.
+
+    Without a nest, nobody could look at the faults there.
+    """
+    candidates = [sizes] + small_sizes(program)
     if len(sizes) == 2:
         candidates.extend([(size, sizes[1]) for size in sizes_alone()])
         candidates.extend([(sizes[0], size) for size in sizes_alone()])
-    found = first_not_kept(program, schedule, folding, candidates)
-    return sizes if found is None else found
+    return first_not_kept(program, schedule, folding, candidates)
 
 
 def sizes_of(program, ask, point, budget):

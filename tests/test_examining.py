@@ -50,6 +50,12 @@ class NeverGivenUpTest(ExaminingTest):
                 ):
                     self.assertEqual(self.check(System(0, rows), effort=effort), "refutation")
 
+    def test_no_variables_and_many_rows(self):
+        rows = [("div", 2 + k, (0,)) for k in range(400)] + [("ge", (k,)) for k in range(5000)]
+        for effort in (1, 500):
+            self.assertEqual(self.check(System(0, rows), effort=effort), "point")
+            self.assertEqual(self.check(System(0, rows + [("div", 2, (1,))]), effort=effort), "refutation")
+
     def test_an_impossible_reduced_form(self):
         for number in (2, 14, 2 * GREAT, 10 ** 40):
             for effort in EFFORTS:

@@ -120,11 +120,7 @@ class SearchTest(unittest.TestCase):
             self.assertEqual((len(value), type(value)), (len(program.parameters), tuple))
             self.assertTrue(in_context(program, value))
             self.assertTrue(all(-50 <= size <= 50 for size in value))
-            try:
-                nest = Nest(program, value)
-            except TooMany:
-                return kind
-            self.assertGreater(len(Faults(nest, schedule, folding=folding)), 0)
+            self.assertGreater(len(Faults(Nest(program, value), schedule, folding=folding)), 0)
         else:
             self.assertEqual(kind, "unknown")
             self.assertIn(value, ("effort", "limit"))
@@ -260,6 +256,18 @@ class WholeSearchTest(SearchTest):
         text = "params n; context n >= 60; array s; for i = n to n + 1 { s = f(); }"
         program, schedule = read(text, "rows par; f: i;")
         self.assertEqual(search(program, schedule), ("unknown", "limit"))
+
+    def test_faults_where_there_is_no_nest(self):
+        loops = "for i = 1 to n { for j = 1 to n { s = f(s); } }"
+        program, schedule = read(f"params n; context n >= 11; array s; {loops}", "rows par; f: 0;")
+        self.assertEqual(search(program, schedule), ("unknown", "limit"))
+        program, schedule = read(f"params n; context n >= 10; array s; {loops}", "rows par; f: 0;")
+        self.assertEqual(search(program, schedule), ("sizes", (10,)))
+        # The sizes of a point may have no nest where others have one.
+        for context, first in (("n >= 30 and m >= 30", "n"), ("n >= 30 and m >= 30", "m"), ("n + m >= 45", "m")):
+            text = f"params n, m; context {context}; array s; for i = {first} to 45 {{ for j = 1 to 11 {{ s = f(s); }} }}"
+            program, schedule = read(text, "rows par; f: 0;")
+            self.assertEqual(self.check(program, schedule), "sizes")
 
     def test_sizes_at_the_limits(self):
         for size in (50, -50):
