@@ -118,7 +118,7 @@ def generate(program, schedule):
         Hand(program, schedule, number, parameters) for number in range(len(program.statements))
     ]
     around = Around(count, least_form(conditions_of(program.context)))
-    body = body_from(0, schedule.marks, hands, around) if len(hands) > 0 else ()
+    body = body_from(0, schedule.marks, hands, around)
     if any([abs(number) > GREATEST_NUMBER for number in numbers_of_body(body)]):
         raise TooGreat("a number in the code is too great")
     return Code(program, body)

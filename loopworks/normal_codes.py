@@ -18,9 +18,9 @@ def iterator_name(program, names):
 
 def body_signs(program, body, names):
     signs = []
-    for at, (item, sequential) in enumerate(body):
+    for item, sequential in body:
         signs.extend(item_signs(program, item, names))
-        if not sequential and at < len(body) - 1:
+        if not sequential:
             signs.append(symbol("||"))
     return signs
 

@@ -396,6 +396,13 @@ class LimitsTest(StepsTest):
             self.assertEqual(len(apply_ask_step(found, self.heavy(998), step)), 4)
             self.check_raises(TooMany, found, self.heavy(999), step)
 
+    def test_the_weight_of_one_failure(self):
+        for row in (("ge", (1, 0, 0)), ("div", 2, (1, 0, 0))):
+            found = ask(2, (), ((0, (((row,),),)),))
+            for step in (("witness", 0, (0,), ()), ("eliminate", 0, (0,), 0)):
+                self.assertEqual(len(apply_ask_step(found, self.heavy(3998), step)), 1)
+                self.check_raises(TooMany, found, self.heavy(3999), step)
+
     def test_a_great_divisor(self):
         for m in (2001, 2002, GREAT, 10 ** 30):
             found = ask(1, (), ((0, (((("div", m, (1, 0)),),),)),))
@@ -513,6 +520,11 @@ class EliminateLimitsTest(StepsTest):
         for j in (0, 200, -1):
             with self.assertRaises(TooMany):
                 apply_ask_step(found, START, ("eliminate", 0, (0,), j))
+        # One system, with a weight of 4000 and of 4001.
+        for many, error in ((3999, StepFails), (4000, TooMany)):
+            entry = (1, ((tuple([("ge", (1, k, 0, 0)) for k in range(many)]),),))
+            with self.assertRaises(error):
+                apply_ask_step(ask(2, (), (entry,)), START, ("eliminate", 0, (0,), 1))
 
     def test_great_numbers(self):
         # The failure of a constant below GREAT is not too great either.

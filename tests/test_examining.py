@@ -3,9 +3,10 @@
 import random
 import unittest
 
-from loopworks.examining import examine
+from loopworks.examining import MOST_NUMBERS, Budget, examine, split_steps
 from loopworks.steps import refutes
 from loopworks.systems import System
+from loopworks.tableaus import Tableau
 from tests.random_systems import points_in_box, random_constraint, random_system
 
 GREAT = 10 ** 18
@@ -117,6 +118,34 @@ class SmallSystemsTest(ExaminingTest):
             system = random_system(chance, 4, 6, 9)
             self.assertEqual(examine(system, effort=2000), examine(system, effort=10 ** 12))
             self.assertEqual(examine(system), examine(system, effort=500))
+
+
+class BudgetTest(unittest.TestCase):
+    """Point 63: the effort is the number of systems that may be looked at."""
+
+    def test_the_number_of_looks(self):
+        for effort, looks in ((1, 1), (7, 7), (1999, 1999), (2000, 2000), (2001, 2000), (10 ** 9, 2000)):
+            budget = Budget(effort)
+            self.assertEqual([budget.spend() for _ in range(looks + 2)], [True] * looks + [False] * 2)
+
+
+class WaysToGoOnTest(ExaminingTest):
+    def test_splits_beside_values_that_are_no_integers(self):
+        # y is 3 and x is 5 / 2, or -5 / 2.
+        for sign, constant in ((1, -3), (-1, 2)):
+            rows = [(2, 0, -5 * sign), (-2, 0, 5 * sign), (0, 1, -3), (0, -1, 3)]
+            tableau = Tableau(2, rows)
+            self.assertIsNone(tableau.find_conflict())
+            steps = split_steps(System(2, [("ge", row) for row in rows]), tableau)
+            self.assertEqual(steps, [("split", (1, 0, constant))])
+
+    def test_systems_with_too_many_numbers_to_be_solved(self):
+        rows = [("ge", (1,) * 40 + (-k,)) for k in range(3000)]
+        self.assertGreater(40 * len(rows), MOST_NUMBERS)
+        self.assertEqual(self.check(System(40, rows)), "point")
+        zeros = (0,) * 38
+        rows += [("ge", (0, 2) + zeros + (-1,)), ("ge", (0, -2) + zeros + (1,))]
+        self.assertEqual(self.check(System(40, rows)), "refutation")
 
 
 class RandomSystemsTest(ExaminingTest):

@@ -181,6 +181,7 @@ class LimitsTest(unittest.TestCase):
         self.check("for t1 = 1 to 5000 { f(); } || for t1 = 1 to 5000 { f(); }", False)
         self.check("for t1 = 1 to 5000 { f(); } || for t1 = 1 to 5001 { f(); }", True)
         self.check("for t1 = 1 to 5000 { f(); } for t1 = 1 to 0 { f(); } for t1 = 1 to 5000 { f(); }", False)
+        self.check("for t1 = 1 to 5000 { f(); } for t1 = 9 to 0 { f(); } for t1 = 1 to 5001 { f(); }", True)
         self.check("for t1 = 1 to 5000 { if n > m { f(); } } for t1 = 1 to 5001 { f(); }", True)
 
     def test_statements_are_not_counted(self):

@@ -295,6 +295,13 @@ class GuardsTest(TextTest):
         )
 
 
+def greatest_in(value):
+    """The greatest number anywhere in a body, without its sign."""
+    if isinstance(value, tuple):
+        return max([greatest_in(part) for part in value], default=0)
+    return abs(value) if isinstance(value, int) else 0
+
+
 class GreatNumbersTest(unittest.TestCase):
     TEXT = (
         "params n; array a; for i = -99 to 2 * n + 99 { for j = 2 * n - 4 * i - 100 to n - 53 { "
@@ -311,7 +318,18 @@ class GreatNumbersTest(unittest.TestCase):
 
     def test_numbers_that_are_not(self):
         code = generate(*read(self.TEXT, "rows seq, seq; f: floor(89 - 3 * n + i - 4 * k, 3), floor(-n - k - 100, 7);"))
-        self.assertLess(max([abs(number) for number in numbers_of_body(code.body)]), 10 ** 9)
+        self.assertLess(greatest_in(code.body), 10 ** 9)
+
+    def test_numbers_everywhere(self):
+        program = Program.parse("params n; array s; for i = 0 to n { s = f(); }")
+        code = Code.parse(
+            "parfor t1 = min(max(ceil(11 * n - 12, 13), 14), 15) to max(16, min(floor(17 * n + 18, 19), 20)) { "
+            "{ if 21 divides 22 * n - 23 and 24 * n >= 25 and 26 * n == 27 { f(28 * t1 - 29); } } "
+            "for t2 = 30 * t1 to 31 { f(32); } }",
+            program,
+        )
+        found = [abs(number) for number in numbers_of_body(code.body)]
+        self.assertEqual([number for number in range(11, 33) if number not in found], [])
 
     def test_the_greatest_number(self):
         self.assertEqual(generating.GREATEST_NUMBER, 999999999)
@@ -319,14 +337,43 @@ class GreatNumbersTest(unittest.TestCase):
             (ONE, "rows seq; f: i + 77;"), (ONE, "rows seq; f: i - 77;"), (ONE, "rows seq; f: 4 * i - 77;"),
             (HEAD + "if n >= 77 { a[0] = f(); }", "rows; f:;"), (HEAD + "if 8 divides n { a[0] = f(); }", "rows; f:;"),
             ("params n; array a[]; for i = 0 to n { if 2 divides i + n { a[0] = f(); } }", "rows seq; f: n - i - 77;"),
+            # In a lower bound, in an upper one, in a statement, in one that has a condition.
+            (HEAD + "for i = 77 to n { a[i] = f(); }", "rows seq; f: i;"),
+            (HEAD + "for i = n to 77 { a[i] = f(); }", "rows seq; f: i;"),
+            (HEAD + "for i = -77 to n - 77 { a[i] = f(); }", "rows seq; f: i + 77;"),
+            (HEAD + "for i = -77 to n - 77 { if n >= 3 { a[i] = f(); } }", "rows seq; f: i + 77;"),
         ):
             given = read(text, schedule)
-            most = max([abs(number) for number in numbers_of_body(generate(*given).body)])
+            most = greatest_in(generate(*given).body)
             with mock.patch.object(generating, "GREATEST_NUMBER", most):
                 generate(*given)
             with mock.patch.object(generating, "GREATEST_NUMBER", most - 1):
                 with self.assertRaises(TooGreat):
                     generate(*given)
+
+
+def schedule_of_forms(chance, program):
+    """A schedule whose rows are numbers for some statements, and loops or sums for others."""
+    marks = [chance.choice(["seq", "par"]) for _ in range(chance.randint(1, 4))]
+    forms = [chance.choice(["number", "number", "loop", "either", "sum"]) for _ in marks]
+    lines = []
+    for number, statement in enumerate(program.statements):
+        names = program.names_of(number)
+        rows = [row_of_form(chance, form, names, names[len(program.parameters):]) for form in forms]
+        lines.append(f"{statement.name}: {', '.join(rows)};")
+    return Schedule.parse(f"rows {', '.join(marks)}; {' '.join(lines)}", program)
+
+
+def row_of_form(chance, form, names, loops):
+    if form == "either":
+        form = chance.choice(["number", "loop"])
+    if form == "number" or not names:
+        row = str(chance.randint(0, 3))
+    elif form == "loop" and loops:
+        row = f"{chance.choice(loops)} {chance.choice('+-')} {chance.choice([0, 0, 1, 3])}"
+    else:
+        row = " + ".join([chance.choice(["", "2 * "]) + name for name in names if chance.random() < 0.6] or ["1"])
+    return f"floor({row}, {chance.randint(1, 4)})" if chance.random() < 0.3 else row
 
 
 class AllInstancesTest(unittest.TestCase):
@@ -356,6 +403,8 @@ class AllInstancesTest(unittest.TestCase):
             text = chance.choice(SMALL + GROWING) if chance.random() < 0.4 else random_program(chance)
             program = Program.parse(text)
             schedule = Schedule.parse(random_schedule(chance, program), program)
+            if chance.random() < 0.6:
+                schedule = schedule_of_forms(chance, program)
             code = generate(program, schedule)
             self.assertEqual(Code.parse(code.text, program).body, code.body)
             for _ in range(4):

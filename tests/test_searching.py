@@ -11,7 +11,8 @@ from loopworks.faults import Faults
 from loopworks.nests import Nest, in_context
 from loopworks.programs import Program
 from loopworks.schedules import Schedule
-from loopworks.searching import examine_ask, search
+from loopworks.examining import Budget
+from loopworks.searching import examine_ask, search, sizes_of, small_sizes, start_within
 from tests.cases import GROWING, SMALL, random_cases, random_folding
 from tests.random_programs import random_program
 from tests.random_systems import random_system
@@ -256,6 +257,39 @@ class WholeSearchTest(SearchTest):
         text = "params n; context n >= 60; array s; for i = n to n + 1 { s = f(); }"
         program, schedule = read(text, "rows par; f: i;")
         self.assertEqual(search(program, schedule), ("unknown", "limit"))
+        for context in ("n == 51", "n >= 51", "n + 51 == 0", "n + 51 <= 0"):
+            text = f"params n; context {context}; array s; s = f(); s = g();"
+            program, schedule = read(text, "rows par; f: 0; g: 0;")
+            self.assertEqual(search(program, schedule), ("unknown", "limit"))
+
+    def test_sizes_of_points_with_greater_ones(self):
+        program = Program.parse("params n, m;")
+        ask = SimpleNamespace(variables=3, clauses=(((("ge", (1, -1, 0, 0)), ("ge", (0, 1, 0, -49)),),),), hidden=())
+        for point in ((50, 50, 0), (50, 49, 99)):
+            self.assertEqual(sizes_of(program, ask, point, Budget(9)), ("sizes", point[:2]))
+        for point in ((51, 50, 0), (60, 60, 1), (60, 49, 0)):
+            kind, sizes = sizes_of(program, ask, point, Budget(9))
+            self.assertEqual((kind, sizes in ((49, 49), (50, 49), (50, 50))), ("sizes", True))
+        self.assertEqual(sizes_of(program, ask, (51, 51, 0), Budget(0)), ("unknown", "effort"))
+        ask = SimpleNamespace(variables=3, clauses=(((("ge", (-1, 0, 0, -51)),),),), hidden=())
+        self.assertEqual(sizes_of(program, ask, (-51, 0, 0), Budget(9)), ("unknown", "limit"))
+        self.assertEqual(
+            start_within(2, ask).rows,
+            (
+                ("ge", (1, 0, 0, 50)), ("ge", (-1, 0, 0, 50)), ("ge", (0, 1, 0, 50)), ("ge", (0, -1, 0, 50)),
+            ),
+        )
+
+    def test_sizes_that_are_tried(self):
+        found = small_sizes(Program.parse("params n;"))
+        self.assertEqual(sorted(found), [(size,) for size in range(-50, 51)])
+        found = small_sizes(Program.parse("params n; context n >= 7 and 2 divides n;"))
+        self.assertEqual(found, [(size,) for size in range(8, 51, 2)])
+        found = small_sizes(Program.parse("params n, m; context n <= m;"))
+        self.assertEqual(len(set(found)), len(found))
+        self.assertTrue(all(-50 <= n <= m <= 50 for n, m in found))
+        self.assertIn((1, 2), found[:10])
+        self.assertEqual(small_sizes(Program.parse("array s;")), [()])
 
     def test_faults_where_there_is_no_nest(self):
         loops = "for i = 1 to n { for j = 1 to n { s = f(s); } }"
