@@ -2,7 +2,7 @@
 
 from loopworks.signs import write_signs
 from loopworks.writing import (
-    conditions_signs, joined, rounded_signs, sums_signs, symbol, word,
+    chosen_signs, conditions_signs, rounded_signs, sums_signs, symbol, word,
 )
 
 
@@ -52,10 +52,3 @@ def loop_signs(program, item, names):
 def bounds_signs(function, rounding, bounds, names):
     """The signs of a list of bounds, with the names of the functions that stand there."""
     return chosen_signs(function, [rounded_signs(rounding, bound, names) for bound in bounds])
-
-
-def chosen_signs(function, groups):
-    """One group of signs alone, or several in brackets behind the name of a function."""
-    if len(groups) == 1:
-        return groups[0]
-    return [word(function), symbol("(")] + joined(groups, symbol(",")) + [symbol(")")]

@@ -1,7 +1,9 @@
 """The normal text of a program."""
 
 from loopworks.signs import write_signs
-from loopworks.writing import conditions_signs, joined, sum_signs, sums_signs, symbol, word
+from loopworks.writing import (
+    chosen_signs, conditions_signs, joined, sum_signs, sums_signs, symbol, word,
+)
 
 
 def normal_text(outline):
@@ -52,17 +54,10 @@ def block_signs(outline, body, names):
 
 def loop_signs(outline, item, names):
     name, lowers, uppers, _ = outline.loops[item[1]]
-    lower = bounds_signs("max", lowers, names)
-    upper = bounds_signs("min", uppers, names)
+    lower = chosen_signs("max", [sum_signs(bound, names) for bound in lowers])
+    upper = chosen_signs("min", [sum_signs(bound, names) for bound in uppers])
     head = [word("for"), word(name), symbol("=")] + lower + [word("to")] + upper
     return head + block_signs(outline, item[2], names + (name,))
-
-
-def bounds_signs(function, bounds, names):
-    """One bound alone, or several in brackets behind the name of a function."""
-    if len(bounds) == 1:
-        return sum_signs(bounds[0], names)
-    return [word(function), symbol("(")] + sums_signs(bounds, names) + [symbol(")")]
 
 
 def statement_signs(outline, number, names):

@@ -51,6 +51,13 @@ def sums_signs(expressions, names):
     return joined([sum_signs(expression, names) for expression in expressions], symbol(","))
 
 
+def chosen_signs(function, groups):
+    """One group of signs alone, or several in brackets behind the name of a function."""
+    if len(groups) == 1:
+        return groups[0]
+    return [word(function), symbol("(")] + joined(groups, symbol(",")) + [symbol(")")]
+
+
 def rounded_signs(function, divided, names):
     """The signs of a pair of an expression and its divisor, with the name of a function."""
     expression, divisor = divided
